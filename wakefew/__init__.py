@@ -1,0 +1,1 @@
+"""Wakefew: a keeper of bells that wakes as seldom as can be."""
