@@ -136,6 +136,192 @@ def name_faults(node, methods):
             yield f"L25 {node.func.attr}"
 
 
+WALKERS = "zip enumerate reversed range".split()
+VIEWS = "items keys values".split()
+WALKED_IN = "list tuple dict sorted sum any all enumerate zip min max".split()
+CHANGES = "append clear extend insert pop remove reverse setdefault update".split()
+KEYWORDS = {"sorted": ("key", "reverse"), "min": ("key", "default"), "max": ("key", "default"), "sum": ("start",)}
+TAKEN = "KeyError ZeroDivisionError StopIteration".split()
+NO_VALUES = "items keys values pop update append clear extend insert remove reverse setdefault sort args".split()
+FREE_AS_METHODS = METHODS + ["add", "discard"]
+FREE_AS_VALUES = "count index title find get join lower upper split strip copy add".split()
+PYTHONS_OWN = {name for kind in (str, int, list, dict, set, bytes, tuple) for name in dir(kind)}
+
+
+def parents_of(tree):
+    return {child: node for node in ast.walk(tree) for child in ast.iter_child_nodes(node)}
+
+
+def top_names(tree):
+    names = []
+    for node in tree.body:
+        if isinstance(node, (ast.FunctionDef, ast.ClassDef)):
+            names.append(node.name)
+        elif isinstance(node, ast.ImportFrom):
+            names.extend(alias.asname or alias.name for alias in node.names)
+        elif isinstance(node, ast.Assign):
+            names.extend(target.id for target in node.targets)
+    return names
+
+
+def class_names(tree):
+    return [node.name for node in tree.body if isinstance(node, ast.ClassDef)]
+
+
+def imported_names(tree):
+    return [alias.name for node in tree.body if isinstance(node, ast.ImportFrom) for alias in node.names]
+
+
+def top_faults(tree):
+    for node in tree.body:
+        if not isinstance(node, (ast.FunctionDef, ast.ClassDef, ast.ImportFrom, ast.Assign)):
+            if not (isinstance(node, ast.Expr) and is_docstring(node, tree)):
+                yield "L3 a statement at the top"
+        if isinstance(node, ast.Assign):
+            for part in ast.walk(node.value):
+                if isinstance(part, (ast.Call, ast.ListComp, ast.BinOp, ast.Lambda)):
+                    yield "L3 no plain value at the top"
+            if isinstance(node.value, (ast.List, ast.Dict)):
+                for part in list(ast.walk(node.value))[1:]:
+                    if isinstance(part, (ast.List, ast.Dict)):
+                        yield "L15 a list or dict within one of the top"
+    names = top_names(tree)
+    for name in sorted({name for name in names if names.count(name) > 1}):
+        yield f"L15 {name} is bound twice"
+
+
+def local_faults(node, tree):
+    held = class_names(tree) + imported_names(tree)
+    if isinstance(node, ast.arg) and node.arg in held:
+        yield f"L15 the parameter {node.arg}"
+    if isinstance(node, ast.Name) and isinstance(node.ctx, ast.Store) and node.id in held:
+        yield f"L15 the local {node.id}"
+    if isinstance(node, ast.arg) and node.annotation or isinstance(node, ast.FunctionDef) and node.returns:
+        yield "L21 an annotation"
+
+
+def class_faults(node, parents, classes):
+    if isinstance(node, ast.Name) and node.id in classes:
+        above = parents[node]
+        called = isinstance(above, ast.Call) and above.func is node
+        asked = isinstance(above, ast.Call) and isinstance(above.func, ast.Name) and above.func.id == "isinstance"
+        base = isinstance(above, ast.Attribute) and above.attr == "__init__"
+        if not (called or asked or base or isinstance(above, (ast.ClassDef, ast.ExceptHandler))):
+            yield f"L18 the class {node.id} is handed on"
+    if isinstance(node, ast.ClassDef):
+        methods = [part.name for part in node.body if isinstance(part, ast.FunctionDef)]
+        if len(methods) != len(set(methods)):
+            yield "L18 a method stands twice"
+        for name in methods:
+            if name in PYTHONS_OWN and name not in FREE_AS_METHODS and name != "__init__":
+                yield f"L26 the method {name}"
+    if isinstance(node, ast.Attribute) and isinstance(node.ctx, ast.Store):
+        if node.attr in NO_VALUES or node.attr in PYTHONS_OWN and node.attr not in FREE_AS_VALUES:
+            yield f"L26 the value {node.attr}"
+
+
+def error_faults(node, classes):
+    if isinstance(node, ast.ExceptHandler):
+        taken = node.type.elts if isinstance(node.type, ast.Tuple) else [node.type]
+        for kind in taken:
+            if not (isinstance(kind, ast.Name) and (kind.id in classes or kind.id in TAKEN)):
+                yield "L19 an error that is taken"
+    if isinstance(node, ast.Raise) and not isinstance(node.exc, ast.Call):
+        yield "L19 an error that is not made on the spot"
+
+
+def is_call_of(node, names):
+    return isinstance(node, ast.Call) and isinstance(node.func, ast.Name) and node.func.id in names
+
+
+def walk_faults(node, parents):
+    view = isinstance(node, ast.Call) and isinstance(node.func, ast.Attribute) and node.func.attr in VIEWS
+    if view or is_call_of(node, WALKERS):
+        above = parents[node]
+        walked = isinstance(above, (ast.For, ast.comprehension)) and above.iter is node
+        within = is_call_of(above, WALKED_IN)
+        if within and above.func.id not in ("zip",):
+            within = above.args[0] is node
+        if within and above.func.id in ("min", "max"):
+            within = len(above.args) + len(above.keywords) == 1
+        joined = isinstance(above, ast.Call) and isinstance(above.func, ast.Attribute) and above.func.attr == "join"
+        if not (walked or within or joined):
+            yield "L23 not walked at once"
+    if is_call_of(node, ["set", "frozenset"]) or isinstance(node, ast.Set):
+        yield "L24 a set (stricter here: none at all)"
+
+
+def walked_thing(node):
+    while isinstance(node, ast.Call):
+        if isinstance(node.func, ast.Attribute) and node.func.attr in VIEWS:
+            node = node.func.value
+        elif is_call_of(node, WALKERS) and node.args:
+            node = node.args[0]
+        else:
+            return None
+    return ast.dump(node) if isinstance(node, (ast.Name, ast.Attribute)) else None
+
+
+def change_faults(node):
+    if not isinstance(node, ast.For):
+        return
+    walked = walked_thing(node.iter)
+    if walked is None:
+        return
+    for part in (part for row in node.body for part in ast.walk(row)):
+        if isinstance(part, ast.Call) and isinstance(part.func, ast.Attribute) and part.func.attr in CHANGES:
+            if ast.dump(part.func.value) == walked:
+                yield "L23 what a loop walks is changed in it"
+        if isinstance(part, ast.Subscript) and isinstance(part.ctx, ast.Store) and ast.dump(part.value) == walked:
+            yield "L23 what a loop walks is changed in it"
+
+
+def call_faults(node, parents, methods):
+    if isinstance(node, ast.Call) and node.keywords:
+        name = node.func.id if isinstance(node.func, ast.Name) else ""
+        if not all(word.arg in KEYWORDS.get(name, ()) for word in node.keywords):
+            yield "L22 a keyword (stricter here: none at the package's own either)"
+    if isinstance(node, ast.Attribute) and isinstance(node.ctx, ast.Load):
+        if node.attr in METHODS or node.attr in methods:
+            above = parents[node]
+            if not (isinstance(above, ast.Call) and above.func is node or isinstance(above, ast.keyword)):
+                yield f"L25 the method {node.attr} is handed on"
+
+
+def top_use_faults(node, parents, tree):
+    lists = [part.targets[0].id for part in tree.body
+             if isinstance(part, ast.Assign) and isinstance(part.value, (ast.List, ast.Dict))]
+    if isinstance(node, ast.Name) and isinstance(node.ctx, ast.Load) and node.id in lists:
+        above = parents[node]
+        indexed = isinstance(above, ast.Subscript) and isinstance(above.ctx, ast.Load) and above.value is node
+        asked = isinstance(above, ast.Compare) or isinstance(above, ast.Attribute) and above.attr not in CHANGES
+        walked = isinstance(above, (ast.For, ast.comprehension)) or is_call_of(above, ["len", "list", "dict", "sorted"])
+        if not (indexed or asked or walked):
+            yield f"L15 {node.id} of the top is handed on"
+
+
+def init_faults(node):
+    if isinstance(node, ast.FunctionDef) and node.name == "__init__":
+        if any(isinstance(part, ast.Return) for part in ast.walk(node)):
+            yield "L28 a return"
+    if isinstance(node, ast.FunctionDef) and node.name in DUNDERS and node.name != "__init__":
+        yield "L28 best: don't write them"
+
+
+def drawn_from(tree):
+    return [node.module.split(".")[1] for node in tree.body if isinstance(node, ast.ImportFrom)]
+
+
+def is_drawn_round(name, trees):
+    seen, ahead = [], drawn_from(trees[name])
+    while ahead:
+        other = ahead.pop()
+        if other not in seen:
+            seen.append(other)
+            ahead.extend(drawn_from(trees[other]))
+    return name in seen
+
+
 def methods_and_values(trees):
     methods, values = set(), set()
     for tree in trees:
@@ -147,11 +333,17 @@ def methods_and_values(trees):
     return methods, values
 
 
-def faults(text, methods=()):
+def faults(text, methods=(), classes=()):
     tree = ast.parse(text)
-    found = list(text_faults(text))
+    parents = parents_of(tree)
+    found = list(text_faults(text)) + list(top_faults(tree))
     for node in ast.walk(tree):
-        parts = [def_faults(node), expression_faults(node), name_faults(node, methods)]
+        parts = [
+            def_faults(node), expression_faults(node), name_faults(node, methods), local_faults(node, tree),
+            class_faults(node, parents, classes), error_faults(node, classes), walk_faults(node, parents),
+            change_faults(node), call_faults(node, parents, methods), top_use_faults(node, parents, tree),
+            init_faults(node),
+        ]
         if isinstance(node, ast.stmt):
             parts.append(statement_faults(node, tree))
         found.extend(f"{fault}, row {getattr(node, 'lineno', '?')}" for part in parts for fault in part)
@@ -168,10 +360,23 @@ class ThePackage(unittest.TestCase):
         self.assertEqual([name for name in lying if not re.fullmatch(r"[a-z_][a-z0-9_]*\.py", name)], [])
 
     def test_each_file(self):
-        methods, values = methods_and_values([ast.parse(text) for text in self.texts.values()])
+        trees = [ast.parse(text) for text in self.texts.values()]
+        methods, values = methods_and_values(trees)
+        classes = [name for tree in trees for name in class_names(tree)]
         for name, text in self.texts.items():
             with self.subTest(name):
-                self.assertEqual(faults(text, methods), [])
+                self.assertEqual(faults(text, methods, classes), [])
+
+    def test_imports(self):
+        trees = {name[:-3]: ast.parse(text) for name, text in self.texts.items()}
+        for name, tree in trees.items():
+            for node in tree.body:
+                if isinstance(node, ast.ImportFrom):
+                    source = trees[node.module.split(".")[1]]
+                    defined = [part for part in top_names(source) if part not in imported_names(source)]
+                    self.assertEqual([alias.name for alias in node.names if alias.name not in defined], [], name)
+            with self.subTest(name):
+                self.assertFalse(is_drawn_round(name, trees))
 
     def test_no_name_is_a_method_and_a_value(self):
         methods, values = methods_and_values([ast.parse(text) for text in self.texts.values()])
@@ -187,9 +392,21 @@ class TheLook(unittest.TestCase):
             ("L8", "a = hash(3)\n"), ("L10", "a = 1  # " + "b" * 120 + "\n"), ("L12", "_a = 1\n"),
             ("L14", "a = '\u00e4'\n"), ("L15", "def f(next):\n    return 1\n"), ("L17", "# a type\n"),
             ("L20", "a = b is c\n"), ("L25", "a = b.swapcase()\n"), ("L27", "a = 2 ** b\n"), ("L27", "a = '%'\n"),
+            ("L3", "a = len('b')\n"), ("L3", "print(1)\n"), ("L15", "a = [[1]]\n"), ("L15", "a = 1\na = 2\n"),
+            ("L15", "from wakefew.errors import Past\n\n\ndef f(Past):\n    return 1\n"),
+            ("L15", "A = [1]\n\n\ndef f():\n    return A\n"), ("L15", "A = [1]\n\n\ndef f():\n    A.append(2)\n"),
+            ("L18", "class B:\n    pass\n\n\ndef f():\n    return B\n"),
+            ("L19", "def f(a):\n    try:\n        return a[0]\n    except Exception:\n        return 1\n"),
+            ("L19", "def f(a):\n    raise a\n"), ("L21", "def f(a: int):\n    return a\n"),
+            ("L22", "def f(a):\n    return int('1', base=3)\n"), ("L23", "def f(a):\n    return zip(a, a)\n"),
+            ("L23", "def f(a):\n    for b in a:\n        a.append(b)\n"), ("L24", "def f(a):\n    b = set(a)\n"),
+            ("L23", "def f(a):\n    for b, c in a.items():\n        a[b] = 1\n"),
+            ("L25", "def f(a):\n    return a.append\n"), ("L26", "def f(a):\n    a.args = 1\n"),
+            ("L26", "class B:\n    def real(self):\n        return 1\n"),
+            ("L28", "class B:\n    def __init__(self):\n        return None\n"),
         ):
             with self.subTest(rule, text=text):
-                self.assertIn(rule, [fault.split()[0] for fault in faults(text)])
+                self.assertIn(rule, [fault.split()[0] for fault in faults(text, (), ("B",))])
 
     def test_what_is_within_is_left_alone(self):
         text = '"""Words."""\n\nA = (1, 2)\n\n\ndef f(b, c=0):\n    return [d for d in b if d is not None]\n'
