@@ -20,6 +20,16 @@ def name_of(number):
     return signs
 
 
+def some_claims(chance, count, reach, wide, weight):
+    """Claims (name, first, last, weight) of unlike names, in any order."""
+    claims = []
+    for place in range(count):
+        first = chance.randint(-reach, reach)
+        claims.append((name_of(place), first, first + chance.randint(0, wide), chance.randint(1, weight)))
+    chance.shuffle(claims)
+    return claims
+
+
 class Case(unittest.TestCase):
     def refuse(self, kind, call, name=None):
         """call() is refused with just this kind, and with this name, where one is told."""

@@ -248,7 +248,8 @@ def walk_faults(node, parents):
         if not (walked or within or joined):
             yield "L23 not walked at once"
     if is_call_of(node, ["set", "frozenset"]) or isinstance(node, ast.Set):
-        yield "L24 a set (stricter here: none at all)"
+        if not (is_call_of(parents[node], ["sorted", "len"]) and not parents[node].keywords):
+            yield "L24 a set that is kept or walked (stricter here: only straight within sorted or len)"
 
 
 def walked_thing(node):

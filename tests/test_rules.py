@@ -29,6 +29,15 @@ class Classes(unittest.TestCase):
             self.assertTrue(callable(getattr(Rule, name)))
 
 
+class Twins(unittest.TestCase):
+    def test_a_twin_is_alike_and_another_one(self):
+        for rule in (Once(3, 9), Each(1, 7, 2, 5), Each(1, 7, 2), Behind(1, 7, 20, 5), Slowing(1, 7, 30, 2)):
+            twin = rule.twin()
+            self.assertIs(type(twin), type(rule))
+            self.assertIsNot(twin, rule)
+            self.assertEqual(vars(twin), vars(rule))
+
+
 class OnceTells(unittest.TestCase):
     def test_both_told(self):
         rule = Once(3, 9)

@@ -41,6 +41,9 @@ class Rule:
     def words(self):
         raise NotImplementedError("each kind of rule has its own")
 
+    def twin(self):
+        raise NotImplementedError("each kind of rule has its own")
+
     def place_of(self, number, stretch):
         if self.many is not None and number >= self.many:
             return (self.many, None)
@@ -68,6 +71,9 @@ class Once(Rule):
 
     def words(self):
         return row_of("once", [self.first, self.last])
+
+    def twin(self):
+        return Once(self.first, self.last)
 
 
 class Each(Rule):
@@ -99,6 +105,9 @@ class Each(Rule):
 
     def words(self):
         return row_of("each", [self.start, self.step, self.wide, self.many])
+
+    def twin(self):
+        return Each(self.start, self.step, self.wide, self.many)
 
 
 class Behind(Rule):
@@ -134,6 +143,9 @@ class Behind(Rule):
     def words(self):
         return row_of("behind", [self.start, self.gap, self.wide, self.many])
 
+    def twin(self):
+        return Behind(self.start, self.gap, self.wide, self.many)
+
 
 class Slowing(Behind):
     def __init__(self, start, gap, most, wide=0, many=None):
@@ -162,3 +174,6 @@ class Slowing(Behind):
 
     def words(self):
         return row_of("slowing", [self.start, self.gap, self.most, self.wide, self.many])
+
+    def twin(self):
+        return Slowing(self.start, self.gap, self.most, self.wide, self.many)
