@@ -1,12 +1,9 @@
 """Points 8 and 9: where a bell goes on that was left alone, and that great numbers are told at once."""
 
-import signal
 import unittest
 
+from helper import GREAT, Case
 from wakefew.rules import Behind, Each, Once, Slowing
-
-GREAT = 10 ** 40 - 1
-SECONDS = 20
 
 
 def walked(rule, number, last, now):
@@ -92,17 +89,11 @@ class ByHand(unittest.TestCase):
             self.assertEqual(rule.let_by(number, stretch[1], 400), rule.let_by(0, 2, 400))
 
 
-class AtOnce(unittest.TestCase):
+class AtOnce(Case):
     """Each test is stopped where it goes through the times one by one."""
 
     def setUp(self):
-        def stop(number, frame):
-            raise TimeoutError("not told at once")
-
-        held = signal.signal(signal.SIGALRM, stop)
-        self.addCleanup(signal.signal, signal.SIGALRM, held)
-        signal.alarm(SECONDS)
-        self.addCleanup(signal.alarm, 0)
+        self.at_once()
 
     def test_follow_with_a_great_number(self):
         self.assertEqual(Each(3, 7, 2).follow(GREAT, -GREAT), (3 + 7 * 10 ** 40, 5 + 7 * 10 ** 40))
