@@ -178,6 +178,13 @@ class Refused(Case):
             for other in (row + " ", " " + row, row + " x", row + " 7", row + " -"):
                 self.bad(*(rows[:place] + [other] + rows[place + 1:]))
 
+    def test_words_of_the_first_row(self):
+        for row in ("Now 5 shift 0 rounds none", "then 5 shift 0 rounds none", "now 5 turn 0 rounds none",
+                    "now 5 Shift 0 rounds none", "now 5 shift 0 round none", "now 5 shift 0 none none",
+                    "shift 0 now 5 rounds none", "now 5 rounds none shift 0", "bell 5 shift 0 rounds none"):
+            self.bad(row)
+            self.bad(row, BELL)
+
     def test_rows_out_of_their_order(self):
         self.bad(GROUP, HEAD)
         self.bad(BELL, HEAD)
@@ -240,6 +247,10 @@ class Refused(Case):
         self.bad(HEAD, GROUP, "group h - awake", "group g h asleep")
         self.bad(HEAD, BELL, BELL)
         self.bad(HEAD, BELL, "bell a 2 - day 0 7 9 7 once 7 9")
+        asleep = "bell a 1 g gone 0 6 9 - each 6 10 3 4"
+        self.bad(HEAD, "group g - asleep", asleep, asleep)
+        self.bad(HEAD, "group g - asleep", BELL, asleep)
+        self.bad(HEAD, "group g - asleep", asleep, BELL)
 
     def test_not_told_in_a_row_ahead(self):
         self.bad(HEAD, "group h g awake")

@@ -81,7 +81,7 @@ def read_group(groups, words):
 
 
 def read_home(word):
-    demand(word == "-" or is_name(word))
+    # What is no name is refused as a group that no row ahead tells.
     return None if word == "-" else word
 
 
